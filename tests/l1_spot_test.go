@@ -52,7 +52,7 @@ func wantZero[T comparable](t *testing.T, call string, got T, ok bool) {
 }
 
 // wantNone does so for a call that returns a list.
-func wantNone(t *testing.T, call string, got []int, ok bool) {
+func wantNone[T any](t *testing.T, call string, got []T, ok bool) {
 	t.Helper()
 	if ok || len(got) != 0 {
 		t.Errorf("%s = %v, %v, want a failure without a list", call, got, ok)
