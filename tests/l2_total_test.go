@@ -87,6 +87,26 @@ func TestMusicEndsWithItsList(t *testing.T) {
 	}
 }
 
+// wantNew fails the test unless a call returns a list that shares nothing with its argument l and with another result: all its room is filled with another element.
+func wantNew[T comparable](t *testing.T, name string, l []T, other T, call func() ([]T, bool)) {
+	t.Helper()
+	before := slices.Clone(l)
+	first, ok := call()
+	if !ok {
+		t.Error(name, first, ok)
+	}
+	want := slices.Clone(first)
+	second, _ := call()
+	full := first[:cap(first)]
+	for i := range full {
+		full[i] = other
+	}
+	third, _ := call()
+	if !slices.Equal(l, before) || !slices.Equal(second, want) || !slices.Equal(third, want) {
+		t.Error(name, "shared", l, second, third)
+	}
+}
+
 func TestMusicResultsAreNew(t *testing.T) {
 	l := []impl.Measure{{Counts: 4, Tempo: 120}, {Counts: 3, Tempo: 60}, {Counts: 2, Tempo: 90}}
 	// The first two calls leave the music as it is, so that a shared list would do for them.
@@ -98,21 +118,7 @@ func TestMusicResultsAreNew(t *testing.T) {
 		"end":        func() ([]impl.Measure, bool) { return impl.RepeatMeasures(l, 2, 2, 3) },
 		"text":       func() ([]impl.Measure, bool) { return impl.ParseMusic("4@120 3@60") },
 	} {
-		before := slices.Clone(l)
-		first, ok := call()
-		if !ok {
-			t.Error(name, first, ok)
-		}
-		want := slices.Clone(first)
-		second, _ := call()
-		full := first[:cap(first)]
-		for i := range full {
-			full[i] = impl.Measure{Counts: 9, Tempo: 99}
-		}
-		third, _ := call()
-		if !slices.Equal(l, before) || !slices.Equal(second, want) || !slices.Equal(third, want) {
-			t.Error(name, "shared", l, second, third)
-		}
+		wantNew(t, name, l, impl.Measure{Counts: 9, Tempo: 99}, call)
 	}
 	// Nor does the result have the room behind the list.
 	whole := append(slices.Clone(l), l...)

@@ -108,21 +108,7 @@ func TestFormResultsAreNew(t *testing.T) {
 		"block":      func() ([]impl.Spot, bool) { return impl.BlockOf(l[0], 2, 3, 4, 5) },
 		"wedge":      func() ([]impl.Spot, bool) { return impl.WedgeOf(l[0], 4, 4, 5) },
 	} {
-		before := slices.Clone(l)
-		first, ok := call()
-		if !ok {
-			t.Error(name, first, ok)
-		}
-		want := slices.Clone(first)
-		second, _ := call()
-		full := first[:cap(first)]
-		for i := range full {
-			full[i] = impl.Spot{X: 9, Y: 9}
-		}
-		third, _ := call()
-		if !slices.Equal(l, before) || !slices.Equal(second, want) || !slices.Equal(third, want) {
-			t.Error(name, "shared", l, second, third)
-		}
+		wantNew(t, name, l, impl.Spot{X: 9, Y: 9}, call)
 	}
 	// Nor does the joined form have the room behind the first one.
 	whole := slices.Concat(l, []impl.Spot{{X: 7, Y: 7}})
