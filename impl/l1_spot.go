@@ -38,11 +38,7 @@ func MoveSpot(a Spot, x int, y int) (Spot, bool) {
 	if !IsSpot(a) || !inRange(x, -maxShift, maxShift) || !inRange(y, -maxShift, maxShift) {
 		return Spot{}, false
 	}
-	moved := Spot{X: a.X + x, Y: a.Y + y}
-	if !IsSpot(moved) {
-		return Spot{}, false
-	}
-	return moved, true
+	return spotOf(Spot{X: a.X + x, Y: a.Y + y})
 }
 
 // MirrorSpot returns the spot on the other side of the line in the middle of the field: with MaxX minus X instead of X.
@@ -133,11 +129,10 @@ func ParseSpot(s string) (Spot, bool) {
 	}
 	x, okX := parseSteps(left)
 	y, okY := parseSteps(right)
-	a := Spot{X: x, Y: y}
-	if !okX || !okY || !IsSpot(a) {
+	if !okX || !okY {
 		return Spot{}, false
 	}
-	return a, true
+	return spotOf(Spot{X: x, Y: y})
 }
 
 func inRange(n int, least int, most int) bool {
@@ -155,6 +150,22 @@ func areSpots(l []Spot) bool {
 		}
 	}
 	return true
+}
+
+// spotOf passes on a place if it is a spot.
+func spotOf(a Spot) (Spot, bool) {
+	if !IsSpot(a) {
+		return Spot{}, false
+	}
+	return a, true
+}
+
+// spotsOf passes on new places if all of them are spots.
+func spotsOf(l []Spot) ([]Spot, bool) {
+	if !areSpots(l) {
+		return nil, false
+	}
+	return l, true
 }
 
 // squareBetween expects valid spots, as other ones could overflow.
