@@ -512,6 +512,14 @@ func tryTexts(alphabet string, most int, try func(s string)) {
 	longer("")
 }
 
+// wantRead stops the test unless a text has been read as a list, if it is good, or has failed to be read.
+func wantRead[T comparable](t *testing.T, s string, got []T, ok bool, want []T, good bool) {
+	t.Helper()
+	if ok != good || ok && !slices.Equal(got, want) || !ok && len(got) > 0 {
+		t.Fatalf("%q: %v, %v", s, got, ok)
+	}
+}
+
 // TestShortMusicTexts parses short texts of all kinds: they are music just if all their words are measures' texts.
 func TestShortMusicTexts(t *testing.T) {
 	measures := map[string]impl.Measure{}
@@ -530,12 +538,8 @@ func TestShortMusicTexts(t *testing.T) {
 			good = good && ok
 		}
 		l, ok := impl.ParseMusic(s)
-		if ok != good || ok && !slices.Equal(l, want) || !ok && len(l) > 0 {
-			t.Fatalf("%q: %v, %v", s, l, ok)
-		}
-		if ok {
-			parsed[len(l)]++
-		}
+		wantRead(t, s, l, ok, want, good)
+		parsed[len(l)]++
 	}
 	tryTexts("14@ ", 9, try)
 	tryTexts("012349@ ", 6, try)
